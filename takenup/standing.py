@@ -36,6 +36,7 @@ class Standing:
         self.tool = tool
         self.pace = pace
         self.spindle = spindle
+        self.row = told
         self.pairs = tuple(pairs)
         self.said = tuple([name for name, _ in pairs])
         self.is_full = len(pairs) == len(Standing.NAMES)

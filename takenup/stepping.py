@@ -1,6 +1,7 @@
 """Steps, turns of tolds, and runs, as shifts of the registers of an axis."""
 
 from takenup.blocks import Block
+from takenup.effects import StepEffects, change_of_block, step_effect, turn_effect
 from takenup.errors import BadBlock, BadProgram, BadWords, NoAxis, TooMany
 from takenup.items import Told
 from takenup.machines import need_machine
@@ -9,6 +10,7 @@ from takenup.needs import need_both, need_fit, need_program
 from takenup.places import need_run_on
 from takenup.standing import Standing
 from takenup.sums import Sum
+from takenup.word_rows import said_by
 
 MOST_TURNS = 10000
 
@@ -39,13 +41,13 @@ def block_shift(machine, words, block, axis):
         raise BadBlock("block")
     need_axis(machine, axis)
     need_fit([block], machine)
-    return shift_of_block(machine, words, block, axis)
+    return shift_of_step(machine, words, block, axis)
 
 
 def turn_shift(machine, words, told, axis):
     """The shift of the first turn of a told on an axis."""
     need_told(machine, words, told, axis)
-    return shift_of_turn(machine, words, told, axis)
+    return shift_of(machine, turn_effect(len(machine.registers), words.row, told, axis))
 
 
 def told_shift(machine, words, told, axis):
@@ -71,11 +73,9 @@ def run_shift(program, machine, run, axis, words=None):
     need_axis(machine, axis)
     ahead = first_if_none(words)
     need_number_words(machine, ahead)
-    shift = Shift(machine)
-    for place in places[:-1]:
-        shift = shift * shift_of_step(machine, ahead, program[place], axis)
-        ahead = words_behind(ahead, program[place])
-    return shift
+    said = [said_by(step) for step in program.steps]
+    effect, _ = StepEffects(program, machine, axis).of_run(places, ahead.row, said)
+    return shift_of(machine, effect)
 
 
 def run_words(program, run, words=None):
@@ -99,17 +99,17 @@ def mark_sums(program, machine, run, axis, words=None):
     need_number_words(machine, ahead)
     if sum([turns(program[place]) for place in places[:-1]]) > MOST_TURNS:
         raise TooMany("turns", MOST_TURNS)
-    held = {name: Sum(name) for name in machine.registers}
+    held = [Sum(name) for name in machine.registers]
     for place in places[:-1]:
         step = program[place]
         for words_held, block in played_blocks(ahead, step):
-            begins = held["p"]
-            change = change_of(words_held, block, axis)
+            begins = held[0]
+            change = change_of_block(len(held), words_held.row, block, axis)
             if change is not None:
-                name, told = change
-                held[name] = held[told.source] + told.number
+                at, source, number = change
+                held[at] = held[source] + number
             if block.is_marking:
-                yield (begins, held["p"])
+                yield (begins, held[0])
         ahead = words_behind(ahead, step)
 
 
@@ -165,47 +165,12 @@ def played_blocks(words, step):
             words = words_behind(words, item)
 
 
-def change_of(words, block, axis):
-    """The register of the axis that a block changes, and the sum that it gets; None if it changes none.
-
-    The words are those that hold at the deed.
-    """
-    deed = block.deed
-    if axis not in block.axes:
-        return None
-    zero = f"z{words.zero}"
-    if deed.KIND == "home":
-        return ("p", Sum("o"))
-    if deed.KIND == "touch":
-        return ("p", Sum("s"))
-    if deed.KIND == "here":
-        return (zero, Sum("p", -words.length * deed[axis]))
-    if deed.KIND == "lay":
-        return (zero, Sum(zero, words.length * deed[axis]))
-    return ("p", Sum(zero if words.reading == "far" else "p", words.length * deed[axis]))
-
-
-def shift_of_block(machine, words, block, axis):
-    """The shift of a block that fits the machine."""
-    change = change_of(words | block.words, block, axis)
-    if change is None:
-        return Shift(machine)
-    name, told = change
-    return Shift(machine, {name: told})
-
-
-def shift_of_turn(machine, words, told, axis):
-    """The shift of the first turn of a told that fits the machine."""
-    shift = Shift(machine)
-    for item in told.members:
-        shift = shift * shift_of_step(machine, words, item, axis)
-        words = words_behind(words, item)
-    return shift
+def shift_of(machine, effect):
+    """The shift that does what an effect does."""
+    names = machine.registers
+    return Shift(machine, {name: Sum(names[source], number) for name, (source, number) in zip(names, effect)})
 
 
 def shift_of_step(machine, words, step, axis):
     """The shift of a step that fits the machine."""
-    if isinstance(step, Block):
-        return shift_of_block(machine, words, step, axis)
-    later = shift_of_turn(machine, words_behind(words, step), step, axis)
-    return shift_of_turn(machine, words, step, axis) * later.power(step.count - 1)
+    return shift_of(machine, step_effect(len(machine.registers), words.row, step, axis))

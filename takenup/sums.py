@@ -101,3 +101,13 @@ def sum_behind(source, rest):
     if rest.startswith("+"):
         return Sum(source, number)
     return Sum(source, -number) if rest.startswith("-") else None
+
+
+def take_kept_sum(cursor):
+    """Passes the next word, which must be a sum of a kept register, and returns that."""
+    word = cursor.ahead()
+    told = None if word is None else sum_of(word)
+    if told is None or told.source == "p":
+        cursor.refuse()
+    cursor.go_on()
+    return told

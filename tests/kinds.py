@@ -2,18 +2,27 @@
 
 import random
 
+from takenup.alike import Alike, Unalike
 from takenup.blocks import Block, Here, Home, Lay, Move, Touch
 from takenup.errors import BadText, ToolError
+from takenup.heights import Free, Most, Rising
 from takenup.items import Round, Skip, Told
 from takenup.machines import Machine
 from takenup.maps import Shift
 from takenup.marks import Mark
+from takenup.pairs import PairTable, Parting, PlainTable, Want
 from takenup.papers import Denial, Paper
 from takenup.powers import Rounds
 from takenup.programs import Program
+from takenup.runs import Played
+from takenup.serving import Served, Unserved
 from takenup.standing import Standing
 from takenup.stands import Stand
 from takenup.sums import Sum
+from takenup.tables import Table
+from takenup.takeups import Choice, Refused, RefusedRow, RefusedWord, TakenUp
+from takenup.targets import Target
+from takenup.unlike import Unlike
 
 
 def any_values():
@@ -25,7 +34,22 @@ def any_values():
         Standing(), Standing.first(), Move(x=1), Here(x=1), Lay(x=1), Home("x"), Touch("x"), Block(),
         Block(None, Move(x=1)), Skip(Block()), Round(Block()), Told(2, Block()), Program(Block()), Sum("p"),
         Shift(Machine()), Stand(Machine()), Mark("rapid", (0,)), Paper("most", 1), Denial("ring"), Rounds(0, 1, 0),
-        BadText(0, 0),
+        BadText(0, 0), Target(), Target(Standing(zero=3), x=Sum("z0")), *strange_papers(),
+    ]
+
+
+def strange_papers():
+    """Papers of each class, made of values of all kinds."""
+    run = (0,)
+    return [
+        Played(None, None, None), Table(None), Table(((0, "far fine zero 0 rapid", "x", ()),)), Table(((0, 1, 2, 3),)),
+        Unlike(None, None), Unlike(run, run), Most(None, None, None), Most(0, run, ((1, 2, 3, 4, 5),)), Rising(1, 2, 3),
+        Rising(run, run, run), Free(None), Free(run), Want("p", "p", 0), Parting(None, None, None, None),
+        Parting(run, (0, 1), (), "mark"), Parting(run, (0, 1), ({0},), {0}), PairTable(None, None),
+        PairTable("x", ((0, 1, 2, 3), ({0}, {0}, {0}, {0}))), PairTable("x", ()), PlainTable(None),
+        PlainTable(((0, {0}, 1),)), PlainTable(()), Alike(None, None), Alike((1,), PlainTable(())), Unalike(None, None),
+        Unalike(Parting(run, run, (), "ends"), {0}), Served(0, 0, 0, 0, 0), Unserved(0, 0, 0), Choice(0, 0),
+        TakenUp(0, 0), RefusedWord(0, 0, 0), Refused(0), RefusedRow(0, 0, 0),
     ]
 
 

@@ -52,3 +52,16 @@ def do_run(words, numbers, program, run):
 
 def random_numbers(chance, machine, most=10 ** 6):
     return {axis: {name: chance.randint(-most, most) for name in machine.registers} for axis in machine.axes}
+
+
+def marks_of_step(words, numbers, step):
+    """Does a step; returns the parts of its marks, by the document."""
+    if not isinstance(step, Block):
+        return [mark for _ in range(step.count) for item in step.members for mark in marks_of_step(words, numbers, item)]
+    told = do_block(words, numbers, step)
+    if told is None:
+        return []
+    begins, ends = [tuple(row[axis] for axis in numbers) for row in told]
+    if words["way"] == "rapid":
+        return [("rapid", ends, None, None, None, None)]
+    return [("cut", ends, begins, words["tool"], words["pace"], words["spindle"])]
