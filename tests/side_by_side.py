@@ -1,7 +1,9 @@
 """Two machines that are played side by side, block by block, with symbols for what the registers hold at first."""
 
-from plain_play import do_block
+from kinds import random_block
+from plain_play import FIRST, do_block, do_run
 from takenup.blocks import Block
+from takenup.programs import Program
 
 
 class Symbol:
@@ -73,3 +75,58 @@ def spots(program, second, machine, run_on, words, numbers, other_words, other_n
             other_block = next(other_blocks)[1]
             for spot in compared(machine, block, other_block, words, numbers, other_words, other_numbers):
                 yield (run_on[:at + 2], inside, *spot)
+
+
+def other_words_of(words):
+    """A dict of all words of the other machine, of which some may be left."""
+    return {"reading": "far", "unit": "fine", "zero": 0, **dict(words)}
+
+
+def parts_at(program, second, machine, axis, other, held, parting):
+    """Whether the machines part at the spot of a Parting, played from its run; None if nothing is compared there.
+
+    The other machine begins with the words other, and with what a Sum, held, tells as its position.
+    """
+    words, numbers = dict(FIRST), symbols(machine)
+    do_run(words, numbers, program, parting.run)
+    other_numbers = {name: dict(row) for name, row in numbers.items()}
+    for name, row in other_numbers.items():
+        row["p"] = Symbol("hand " + name) if held is None else numbers[name][held.source] + held.number
+    played = spots(
+        program, second, machine, parting.run_on, words, numbers, other_words_of(other), other_numbers
+    )
+    for run_on, inside, what, found, one, another in played:
+        if (run_on, inside, what, found) == (parting.run_on, parting.inside, parting.what, axis):
+            return not one == another
+    return None
+
+
+def other_block(chance, block, axes, zeros):
+    """A block that is the same, or another one."""
+    return random_block(chance, axes, zeros) if chance.random() < 0.3 else block
+
+
+def other_item(chance, item, axes, zeros):
+    """An item of the same shape, with some blocks that are others."""
+    if isinstance(item, Block):
+        return other_block(chance, item, axes, zeros)
+    return item.with_items(*[other_item(chance, one, axes, zeros) for one in item])
+
+
+def other_program(chance, program, axes, zeros):
+    """A program of the same shape, with some blocks that are others."""
+    return Program(*[other_item(chance, item, axes, zeros) for item in program.members])
+
+
+def program_with_one_other_block(chance, program, axes, zeros):
+    """A program of the same shape, with one block that is another one or says another word."""
+    place, inside = chance.choice(list(program.sites()))
+    block = program.block_at(place, *inside)
+    roll = chance.random()
+    if roll < 0.4 and len(block.words) > 0:
+        block = Block(block.words.with_word(chance.choice(block.words.said), None), block.deed)
+    elif roll < 0.8:
+        block = block | random_block(chance, axes, zeros).words
+    else:
+        block = random_block(chance, axes, zeros)
+    return program.with_block(place, block, *inside)
