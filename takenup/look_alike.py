@@ -1,24 +1,20 @@
 """Looking whether tables show that machines agree, or a Parting that they part. Nothing is searched."""
 
-from takenup.alike import Alike, Unalike, need_alike_place, need_seconds
+from takenup.alike import SAME_POSITION, Alike, Unalike, need_alike_place, need_seconds
 from takenup.errors import BadPaper, BadSum, BadWords
 from takenup.graph import node_graph
 from takenup.ground import NodeField, node_at
 from takenup.look_pairs import pairs_hold, plains_hold
 from takenup.look_partings import parting_holds, row_along
 from takenup.needs import need_both, need_program
-from takenup.openings import (
-    held_pair, is_held, is_plain_words, need_openings, need_other_words, need_plain_openings, need_second,
-)
+from takenup.openings import held_pair, is_held, is_plain_words, need_openings, need_other_words
+from takenup.openings import need_plain_openings, need_second
 from takenup.pairfield import opened_ties
-from takenup.places import is_run
 from takenup.standing import Standing
 from takenup.stepping import need_axis
 from takenup.tables import Table
 from takenup.ties import read_ties
-from takenup.word_rows import node_row, number_row, plain_row, words_of
-
-SAME_POSITION = (0, 0)
+from takenup.word_rows import number_row, plain_row, words_of
 
 
 def shows_pairs(program, machine, axis, openings, value, second=None, table=None):

@@ -5,9 +5,7 @@ from takenup.inside import block_inside, effect_inside, row_inside
 from takenup.pairs import Parting
 from takenup.places import is_run
 from takenup.standing import Standing
-from takenup.word_rows import laid, said_by
-
-WAY = 3
+from takenup.word_rows import WAY, laid, said_by
 
 
 def parting_holds(program, machine, axis, other_row, held, value, second):

@@ -20,17 +20,18 @@ class Offers:
     """
 
     def __init__(self, program, machine, places, axes):
+        left = Standing()
         self.machine = machine
         self.base = node_graph(program)
-        self.points = {place: [] for place in places}
         self.graph = pair_graph(program, program, None, pin_rows(program))
-        left = Standing()
         self.others = [number_row(words) for words in left.fillings(machine)]
-        for at, (place, row) in enumerate(self.base.points):
-            if place in self.points:
-                self.points[place].append(at)
+        self.nodes_at = {place: [] for place in places}
+        self.opened = {}
+        for at, (place, row) in enumerate(list(self.base.points)):
+            if place in self.nodes_at:
+                self.nodes_at[place].append(at)
                 for other in self.others:
-                    self.graph.enter(place, row + other)
+                    self.opened[(at, other)] = self.graph.enter(place, row + other)
         self.graph.explore()
         self.grounds = {axis: NodeField(self.base, machine, axis) for axis in axes}
         self.ties = {axis: self.grounds[axis].all_ties() for axis in axes}
@@ -47,7 +48,7 @@ class Offers:
     def made_offer(self, place, other, axis):
         """The same, made anew."""
         offer = None
-        for at in self.points[place]:
+        for at in self.nodes_at[place]:
             ties = self.ties[axis][at]
             for (one, another), number, _ in self.asked_at(at, other, axis):
                 if another == 0:
@@ -58,8 +59,7 @@ class Offers:
 
     def asked_at(self, at, other, axis):
         """What is wanted on an axis at a node, with a row of the other machine's words: pairs, numbers and keys."""
-        place, row = self.base.points[at]
-        return self.askings[axis].rows_at(self.graph.enter(place, row + other))
+        return self.askings[axis].rows_at(self.opened[(at, other)])
 
     def options_at(self, place, words, axis):
         """The options of an axis for number words and all their fillings."""
@@ -77,7 +77,7 @@ class Offers:
         First if the axis is left; then, if it is the position that is wanted to be a sum there, with the only sum of
         each kept register that would do there.
         """
-        openings = [Opening(None, at, None, self.ties[axis][at]) for at in self.points[place]]
+        openings = [Opening(None, at, None, self.ties[axis][at]) for at in self.nodes_at[place]]
         opening, pair, number, key = self.first_unmet(openings, other, axis)
         first = self.parting_of(opening, pair, number, key, axis)
         if pair[1] != 0:
@@ -88,7 +88,7 @@ class Offers:
         for at, (kept_source, added) in enumerate(effect):
             if at > 0 and kept_source == source:
                 held = (at, base - added - number)
-                openings = [Opening(None, node, held, self.ties[axis][node]) for node in self.points[place]]
+                openings = [Opening(None, node, held, self.ties[axis][node]) for node in self.nodes_at[place]]
                 unmet = self.first_unmet(openings, other, axis)
                 partings.append(self.parting_of(*unmet, axis))
         return partings

@@ -8,9 +8,7 @@ from takenup.graph import MOST_POINTS, node_graph
 from takenup.items import Told, blocks_in, item_shape
 from takenup.machines import need_machine
 from takenup.needs import need_both, need_place, need_program
-from takenup.openings import (
-    need_node_words, need_openings, need_other_words, need_plain_openings, need_second,
-)
+from takenup.openings import need_node_words, need_openings, need_other_words, need_plain_openings, need_second
 from takenup.pairfield import PairField, pair_graph
 from takenup.papers import Denial, Paper
 from takenup.plain_sides import PlainSides, plain_run

@@ -10,9 +10,7 @@ from takenup.places import need_run_on
 from takenup.standing import Standing
 from takenup.stands import Stand
 from takenup.stepping import MOST_TURNS, first_if_none, turns
-from takenup.word_rows import laid, said_by, words_of
-
-WAY = 3
+from takenup.word_rows import WAY, laid, said_by, words_of
 
 
 class Played(Paper):

@@ -6,9 +6,7 @@ is asked: inside of the step, and what. Rows of words of the first machine say t
 
 from takenup.blocks import Block
 from takenup.effects import block_effect, joined_effect, raised_effect, same_effect
-from takenup.word_rows import NUMBERS, laid, plain_row, said_by
-
-WAY_IN_NODE = 3
+from takenup.word_rows import NUMBERS, WAY, laid, plain_row, said_by
 
 
 class FewWants:
@@ -92,7 +90,7 @@ def block_wants(many, axis, block, second, row, other_row):
     other_effect = block_effect(many, other_row, second, axis)
     few = FewWants()
     if block.is_marking and second.is_marking:
-        if laid(row, block.words.row)[WAY_IN_NODE] == "cut":
+        if laid(row, block.words.row)[WAY] == "cut":
             few.take((0, 0, 0, (), "begins"))
         few.take(pulled_want((0, 0, 0, (), "ends"), effect, other_effect, ()))
     for at in range(1, many - 2):

@@ -9,6 +9,7 @@ from takenup.standing import Standing, values_of
 
 NUMBERS = 3
 NODE = 4
+WAY = 3
 
 
 def node_row(words):

@@ -132,6 +132,14 @@ def top_names(source):
     return names
 
 
+def no_import_that_is_not_used(source):
+    used = {node.id for node in source.nodes(ast.Name)}
+    for node in source.nodes(ast.ImportFrom):
+        for alias in node.names:
+            if alias.name not in used:
+                yield source.at(node, f"{alias.name} is not used")
+
+
 def l3_module_level(source):
     for node in source.tree.body:
         if isinstance(node, ast.Expr) and isinstance(node.value, ast.Constant) and node is source.tree.body[0]:
@@ -473,7 +481,7 @@ def operator_changes(source):
 
 
 ONE_BY_ONE = (
-    l1_files, l2_imports, l3_module_level, l4_functions, l5_classes, l5_double_underscores, l6_statements,
+    l1_files, l2_imports, no_import_that_is_not_used, l3_module_level, l4_functions, l5_classes, l5_double_underscores, l6_statements,
     l7_expressions, l8_builtins, l10_size, l12_names, l14_characters, l15_bindings, l17_names, l19_errors, l20_is,
     l21_annotations, l22_calls, l23_iterated_at_once, l26_attributes, l27_numbers_and_strings, l28_base_init,
     operator_changes,
