@@ -94,7 +94,7 @@ class WordGraph:
 
 
 def said_rows(program, names):
-    """For each step the row of what it says, names alone that begin or end those of a Standing."""
+    """For each step the row of what it says under some names that stand side by side in those of a Standing."""
     low = Standing.NAMES.index(names[0])
     return [said_by(step)[low:low + len(names)] for step in program.steps]
 

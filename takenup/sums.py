@@ -4,6 +4,9 @@ from takenup.checks import is_integer
 from takenup.cursor import Cursor, whole_number
 from takenup.errors import BadSum
 
+PART = 1000000000000000000
+PART_DIGITS = 18
+
 
 class Sum:
     """What a register holds, plus a number."""
@@ -69,7 +72,8 @@ class Sum:
     def __str__(self):
         if self.number == 0:
             return str(self.source)
-        return f"{self.source}{self.number:+d}"
+        sign = "+" if self.number > 0 else "-"
+        return f"{self.source}{sign}{digits_of(abs(self.number))}"
 
     @staticmethod
     def read(text):
@@ -81,6 +85,16 @@ class Sum:
         cursor.go_on()
         cursor.need_end()
         return told
+
+
+def digits_of(number):
+    """The digits of an integer from 0 on. Python refuses to write very long ones at once, but texts are compared."""
+    parts = []
+    while number >= PART:
+        parts.append(str(number % PART).zfill(PART_DIGITS))
+        number = number // PART
+    parts.append(str(number))
+    return "".join(parts[::-1])
 
 
 def sum_of(word):

@@ -41,6 +41,8 @@ UNALIKE = [
     ("x 1", "here x 1", None), ("x 1", "cut x 1", None), ("cut x 1", "cut pace 1 x 1", None), ("x 1", "x 2", "x"),
     ("round ( on x 1 ; skip ( here x 0 ) ) ; far x 0", "round ( on x 1 ; skip ( here x 1 ) ) ; far x 0", "x"),
     ("round ( round ( round ( skip ( zero 1 ) ; x 0 ) ; here x 0 ) )", "round ( round ( round ( skip ( - ) ; x 0 ) ; here x 0 ) )", "x"),
+    ("round ( skip ( x 1 ) ; round ( - ; coarse ) )", "round ( skip ( x 1 ) ; round ( - ; - ) )", "x"),
+    ("round ( round ( cut ; skip ( pace 1 x 1 ) ; - ) ; skip ( x 2 ) )", "round ( round ( cut ; skip ( pace 1 x 1 ) ; pace 1 ) ; skip ( x 2 ) )", None),
     ("y 1 ; x 1", "y 1 ; x 1 y 2", "y"), ("told 1000000000000 ( x 1 ; lay x 1 )", "told 1000000000000 ( x 1 ; lay x 2 )", "x"),
     ("round ( skip ( tool 3 ) ; told 2 ( x 1 ; cut ) ; rapid )", "round ( skip ( - ) ; told 2 ( x 1 ; cut ) ; rapid )", None),
 ]

@@ -3,7 +3,7 @@ import unittest
 
 from kinds import Checks, any_values, is_integer, random_programs, wrong_values
 from takenup.alike import alike
-from takenup.blocks import Block
+from takenup.blocks import Block, Here, Move
 from takenup.errors import BadBlock, BadMachine, BadProgram, NoPlace, TooMany
 from takenup.idle import idle_deeds, idle_words, is_idle, lean, without
 from takenup.items import Round, Skip
@@ -140,6 +140,12 @@ class IdleTest(Checks, unittest.TestCase):
         program, machine = Program.read("on ; on x 1"), Machine(1, 2)
         self.assertEqual(((0, (), "reading"), (1, (), "reading")), idle_words(program, machine))
         self.assertEqual("- ; on x 1", str(lean(program, machine)))
+
+    def test_numbers_of_any_size(self):
+        machine, many = Machine(1, 2), 10 ** 5000
+        program = Program(Block(Standing(reading="far"), Move(x=many)), Block(None, Here(x=many)), Block(None, Here(x=many + 1)))
+        self.assertEqual((((0, (), "reading"),), ((1, ()),)), (idle_words(program, machine), idle_deeds(program, machine)))
+        self.assertEqual(Program(Block(None, Move(x=many)), Block(), program[2]), lean(program, machine))
 
     def test_many_steps_six_deep(self):
         text = "x 1 ; skip ( here x 0 y 1 ; round ( on y -2 ; skip ( zero 1 lay x 1 ; round ( coarse cut ; far x 3 ) ) ) )"

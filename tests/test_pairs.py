@@ -18,7 +18,7 @@ from takenup.papers import Denial, Paper
 from takenup.places import runs_of
 from takenup.programs import Program
 from takenup.standing import Standing
-from takenup.stepping import step_shift
+from takenup.stepping import run_shift, run_words, step_shift
 from takenup.sums import Sum
 from takenup.tables import differences
 
@@ -299,6 +299,7 @@ class PairTableTest(Checks, unittest.TestCase):
                 if met:
                     tables += 1
                     self.check_table(told, known, machine, axis)
+                    self.check_by_playing(told, program, second, machine, axis, openings)
                     self.assertTrue(shows_pairs(program, machine, axis, openings, told, second))
                 else:
                     partings += 1
@@ -315,6 +316,28 @@ class PairTableTest(Checks, unittest.TestCase):
             triples = [(one, another, known[key][one, another]) for one, another in pairs]
             rows.append((*key, tuple(triple for triple in triples if triple[2] is not None)))
         self.assertEqual(tuple(rows), told.rows)
+
+    def check_by_playing(self, told, program, second, machine, axis, openings):
+        """Both machines are played along runs on of few steps, from some arrivals: all that is told holds there."""
+        for place, words, other, held in openings:
+            runs = [run for run in first_runs(program, 4, 60) if run[-1] == place]
+            for run in [run for run in runs if run_words(program, run).node_words == words][:3]:
+                begun = run_shift(program, machine, run, axis)
+                ahead = dict(begun)
+                other_ahead = {**ahead, "p": Sum("p", 10 ** 40) if held is None else ahead[held.source] + held.number}
+                for run_on in first_runs(program, 3, 20, place):
+                    first = run_shift(program, machine, run_on, axis, words)
+                    last = run_shift(second, machine, run_on, axis, other)
+                    held_words = run_words(program, run_on, words).node_words
+                    node = (run_on[-1], held_words, run_words(second, run_on, other).number_words)
+                    self.assertIn(node, told)
+                    for one, another in itertools.product(machine.registers, repeat=2):
+                        number = told(*node, one, another)
+                        if number is not None:
+                            source, other_source = ahead[first[one].source], other_ahead[last[another].source]
+                            self.assertEqual(source.source, other_source.source)
+                            found = source.number + first[one].number - other_source.number - last[another].number
+                            self.assertEqual(number, found)
 
     def check_parting(self, told, program, second, machine, axis, openings):
         self.assertIs(Parting, type(told))

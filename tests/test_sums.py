@@ -49,6 +49,12 @@ class SumsTest(Checks, unittest.TestCase):
         for value in wrong_values(is_integer):
             self.check_error(BadSum, {"part": "numbers"}, Sum("o").value_in, {"o": value})
 
+    def test_texts_of_long_numbers(self):
+        """They are longer than Python writes an integer at once."""
+        for digits in (17, 18, 19, 36, 37, 5000):
+            self.assertEqual("z0+1" + "0" * digits, str(Sum("z0", 10 ** digits)))
+            self.assertEqual("o-" + "9" * digits, str(Sum("o", 1 - 10 ** digits)))
+
     def test_order_and_equality(self):
         sums = [Sum(name, number) for name in NAMES for number in sorted(NUMBERS)]
         for at, one in enumerate(sums):

@@ -5,7 +5,7 @@ import unittest
 from kinds import Checks, is_integer, random_programs, wrong_values
 from side_by_side import blocks_in_play, compared, parts_at, symbols
 from takenup.arrivals import arrivals
-from takenup.blocks import Block
+from takenup.blocks import Block, Here
 from takenup.errors import BadMachine, BadProgram, NoPlace, TooMany
 from takenup.items import Round, Skip
 from takenup.look_alike import shows_parting
@@ -232,6 +232,18 @@ class TakeUpTest(Checks, unittest.TestCase):
         self.assertEqual(["o", "z0", "z1"], sorted(
             str(one) for one in options(program, Machine(1, 2), 4, Standing.read("on fine"), "x")
         ))
+
+    def test_numbers_of_any_size(self):
+        """Targets are chosen by their texts, also where Python refuses to write the numbers."""
+        many, machine = 10 ** 5000, Machine(1, 2)
+        lines = "home x ; here x 0 ; zero 1 here x 0 ; on ; x 3 ; x 4 ; here x 0"
+        program = Program.read(lines).with_block(1, Block(None, Here(x=-many))).with_block(2, Block(Standing(zero=1), Here(x=many)))
+        told = take_up(program, machine, 4)
+        self.assertEqual(("on", "fine", "zero 1", "rapid", "x"), told.target.entries)
+        found = options(program, machine, 4, Standing.read("on fine"), "x")
+        self.assertEqual((Sum("z0", -5 * many), Sum("z1", 5 * many), Sum("o")), found)
+        self.assertEqual(Sum("o"), told.target.sum_of("x"))
+        self.assertEqual(list(range(program.end + 1)), list(takeable(program, machine)))
 
     def test_more_nodes(self):
         texts = ("far", "on", "fine", "coarse", "zero 0", "zero 1", "zero 2", "zero 3")
