@@ -240,7 +240,7 @@ class TakeUpTest(Checks, unittest.TestCase):
         program = Program.read(lines).with_block(1, Block(None, Here(x=-many))).with_block(2, Block(Standing(zero=1), Here(x=many)))
         told = take_up(program, machine, 4)
         self.assertEqual(("on", "fine", "zero 1", "rapid", "x"), told.target.entries)
-        found = options(program, machine, 4, Standing.read("on fine"), "x")
+        found = options(program, machine, 4, Standing.read("on fine zero 1"), "x")
         self.assertEqual((Sum("z0", -5 * many), Sum("z1", 5 * many), Sum("o")), found)
         self.assertEqual(Sum("o"), told.target.sum_of("x"))
         self.assertEqual(list(range(program.end + 1)), list(takeable(program, machine)))
