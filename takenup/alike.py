@@ -7,6 +7,7 @@ from takenup.needs import need_both, need_fit, need_place
 from takenup.openings import is_plain_node, need_second_program
 from takenup.pairs import compared_on, plain_compared
 from takenup.papers import Denial, Paper
+from takenup.plain_sides import PlainRuns
 from takenup.runs import is_full_for
 from takenup.sides import Sides
 from takenup.standing import Standing
@@ -58,7 +59,7 @@ def need_alike_place(program, machine, place, words):
     if not is_full_for(machine, words):
         raise BadWords("words")
     at = node_at(node_graph(program), place, words.node_words)
-    if at is None or not is_plain_node(program, place, words.plain_words):
+    if at is None or not is_plain_node(PlainRuns(program), place, words.plain_words):
         raise NoNode(place, words)
 
 

@@ -3,7 +3,7 @@
 from takenup.errors import BadPaper, BadProgram, BadWords
 from takenup.ground import node_at
 from takenup.needs import is_place, need_fit
-from takenup.plain_sides import plain_run
+from takenup.plain_sides import PlainRuns
 from takenup.programs import Program
 from takenup.standing import Standing
 from takenup.sums import Sum
@@ -82,21 +82,22 @@ def need_plain_openings(program, openings):
     """The list of the openings of plain words, each as a place and the rows of both machines' words."""
     if not isinstance(openings, (tuple, list)) or len(openings) == 0:
         raise BadPaper("openings")
-    return [need_plain_opening(program, value) for value in openings]
+    runs = PlainRuns(program)
+    return [need_plain_opening(runs, value) for value in openings]
 
 
-def need_plain_opening(program, value):
+def need_plain_opening(runs, value):
     """One opening of plain words as a place and the rows of both machines' words."""
     if not isinstance(value, (tuple, list)) or len(value) != 3:
         raise BadPaper("openings")
     place, words, other = value
-    if not is_place(program, place) or not is_plain_node(program, place, words) or not is_plain_words(other):
+    if not is_place(runs.program, place) or not is_plain_node(runs, place, words) or not is_plain_words(other):
         raise BadPaper("openings")
     return (place, plain_row(words), plain_row(other))
 
 
-def is_plain_node(program, place, words):
+def is_plain_node(runs, place, words):
     """Whether any value is the Standing of plain words that come about at a place."""
     if not isinstance(words, Standing) or words.said != Standing.PLAIN_NAMES:
         return False
-    return plain_run(program, place, plain_row(words)) is not None
+    return runs.run_with(place, plain_row(words)) is not None

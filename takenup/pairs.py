@@ -11,7 +11,7 @@ from takenup.needs import need_both, need_place, need_program
 from takenup.openings import need_node_words, need_openings, need_other_words, need_plain_openings, need_second
 from takenup.pairfield import PairField, pair_graph
 from takenup.papers import Denial, Paper
-from takenup.plain_sides import PlainSides, plain_run
+from takenup.plain_sides import PlainRuns, PlainSides
 from takenup.sides import Sides
 from takenup.spots import step_wants
 from takenup.standing import Standing
@@ -244,6 +244,7 @@ def plain_compared(program, second, begins):
     sides = PlainSides(program, second, begins)
     if sides.parting is not None:
         place, row, run_on, inside, what = sides.parting
-        return Parting(plain_run(program, place, row), run_on, inside, what)
+        runs = PlainRuns(program)
+        return Parting(runs.run_with(place, row), run_on, inside, what)
     texts = texts_of(sides.graph, Standing.PLAIN_NAMES, Standing.PLAIN_NAMES)
     return PlainTable([(sides.graph.points[at][0], *texts[at]) for at in points_by_text(sides.graph, texts)])

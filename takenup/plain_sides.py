@@ -53,29 +53,44 @@ def plain_pair_said(program, second):
     return [one + other for one, other in zip(firsts, others)]
 
 
-def plain_run(program, place, row):
-    """A run that stands at a place and brings the row of plain words there, None if there is none.
+class PlainRuns:
+    """Finds runs that bring plain words to places.
 
     It goes back from the place with the words that are still needed: those of which no step behind says the value.
     So it needs no more keys than there are places and sets of plain words, however many plain words come about.
     """
-    said = said_rows(program, Standing.PLAIN_NAMES)
-    first = plain_row(Standing.first())
-    links = {(place, row): None}
-    queue = [(place, row)]
-    done = 0
-    while done < len(queue):
-        reached, needed = queue[done]
-        if reached in program.starts and is_met(needed, first):
-            return places_along(links, queue[done])
-        aheads = [at for at in range(program.end) if reached in program.after(at) and is_met(needed, said[at], True)]
-        fresh = [(at, needed_ahead(needed, said[at])) for at in aheads]
-        fresh = [key for key in fresh if key not in links]
-        for key in fresh:
-            links[key] = queue[done]
-        queue.extend(fresh)
-        done += 1
-    return None
+
+    def __init__(self, program):
+        self.program = program
+        self.said = said_rows(program, Standing.PLAIN_NAMES)
+        self.aheads = [places_ahead(program, place) for place in range(program.end + 1)]
+
+    def run_with(self, place, row):
+        """A run that stands at a place and brings the row of plain words there, None if there is none."""
+        first = plain_row(Standing.first())
+        links = {(place, row): None}
+        queue = [(place, row)]
+        done = 0
+        while done < len(queue):
+            reached, needed = queue[done]
+            if reached in self.program.starts and is_met(needed, first):
+                return places_along(links, queue[done])
+            fresh = [key for key in self.keys_ahead(reached, needed) if key not in links]
+            for key in fresh:
+                links[key] = queue[done]
+            queue.extend(fresh)
+            done += 1
+        return None
+
+    def keys_ahead(self, place, needed):
+        """The places ahead of a place whose steps say nothing but what is needed, with what is needed ahead of them."""
+        aheads = [at for at in self.aheads[place] if is_met(needed, self.said[at], True)]
+        return [(at, needed_ahead(needed, self.said[at])) for at in aheads]
+
+
+def places_ahead(program, place):
+    """The places that a place can follow."""
+    return [at for at in range(program.end) if place in program.after(at)]
 
 
 def is_met(needed, row, can_be_left=False):
