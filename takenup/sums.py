@@ -72,8 +72,7 @@ class Sum:
     def __str__(self):
         if self.number == 0:
             return str(self.source)
-        sign = "+" if self.number > 0 else "-"
-        return f"{self.source}{sign}{digits_of(abs(self.number))}"
+        return f"{self.source}{signed_digits(self.number)}"
 
     @staticmethod
     def read(text):
@@ -85,6 +84,11 @@ class Sum:
         cursor.go_on()
         cursor.need_end()
         return told
+
+
+def signed_digits(number):
+    """The sign and the digits of an integer that is not 0."""
+    return f"+{digits_of(number)}" if number > 0 else f"-{digits_of(-number)}"
 
 
 def digits_of(number):
