@@ -46,7 +46,7 @@ def arrivals_in(graph, place, names):
 
 def points_in_order(graph):
     """The numbers of the points, places ascending, those of a place in the order of the first runs."""
-    by_place = [[] for _ in range(graph.program.end + 1)]
+    by_place = [[] for _ in range(graph.plan.end + 1)]
     for at, (place, _) in enumerate(graph.points):
         by_place[place].append(at)
     return [at for row in by_place for at in row]

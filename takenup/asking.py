@@ -69,5 +69,5 @@ class Asking:
             at, pair, index = key
             places.append(self.graph.points[at][0])
             _, want, key = self.asked[at][pair][index]
-        places.append(self.graph.program.after(places[-1])[0])
+        places.append(self.graph.plan.after(places[-1])[0])
         return tuple(places), want[3], want[4]

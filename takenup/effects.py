@@ -101,7 +101,7 @@ class StepEffects:
     """
 
     def __init__(self, program, machine, axis, names=None, known=None):
-        self.program = program
+        self.plan = program
         self.axis = axis
         self.many = len(machine.registers)
         self.names = names
@@ -111,7 +111,7 @@ class StepEffects:
         """The effect of the step of a place, ahead of which the words of the row hold."""
         key = (place if self.names is None else self.names[place], row[:NUMBERS])
         if key not in self.known:
-            self.known[key] = step_effect(self.many, row, self.program[place], self.axis)
+            self.known[key] = step_effect(self.many, row, self.plan[place], self.axis)
         return self.known[key]
 
     def of_run(self, run, row, said):

@@ -16,7 +16,7 @@ class WordGraph:
     """
 
     def __init__(self, program, said, most=None, pins=None):
-        self.program = program
+        self.plan = program
         self.said = said
         self.most = most
         self.pins = pins
@@ -43,9 +43,9 @@ class WordGraph:
         """The numbers of the points that can follow a point."""
         if self.followed[at] is None:
             place, row = self.points[at]
-            if place < self.program.end:
+            if place < self.plan.end:
                 row = laid(row, self.said[place])
-            self.followed[at] = [self.enter(after, row, at) for after in self.program.after(place)]
+            self.followed[at] = [self.enter(after, row, at) for after in self.plan.after(place)]
         return self.followed[at]
 
     def explore(self):
@@ -115,6 +115,28 @@ def plain_graph(program):
 
 def enter_starts(graph, row):
     """Enters the starts with one row of words, and explores the graph."""
-    for start in graph.program.starts:
+    for start in graph.plan.starts:
         graph.enter(start, row)
     graph.explore()
+
+
+def plain_rows_at(program, place):
+    """The list of the rows of plain words that come about at a place, however many there are in all.
+
+    Places that the same ones can follow lead on together, once for each row behind their steps.
+    """
+    said = said_rows(program, Standing.PLAIN_NAMES)
+    found = {}
+    known = {(program.starts, plain_row(Standing.first())): True}
+    queue = list(known)
+    while len(queue) > 0:
+        places, row = queue.pop()
+        if place in places:
+            found[row] = True
+        for at in places:
+            if at < program.end:
+                key = (program.after(at), laid(row, said[at]))
+                if key not in known:
+                    known[key] = True
+                    queue.append(key)
+    return list(found)

@@ -19,7 +19,7 @@ class NodeField:
         self.graph = graph
         self.axis = axis
         self.registers = machine.registers
-        self.steps = StepEffects(graph.program, machine, axis)
+        self.steps = StepEffects(graph.plan, machine, axis)
 
     def effect_of(self, at):
         """The effect of the step of a node."""
@@ -90,7 +90,7 @@ def need_registers(machine, names):
 
 def point_of_run(field, run):
     """The number of the node at which any value stands as a run, None if it is no run."""
-    if not is_run(field.graph.program, run):
+    if not is_run(field.graph.plan, run):
         return None
     _, row = field.effect_along(run)
     return field.graph.known[(run[-1], row)]

@@ -55,7 +55,7 @@ def key_of_row(field, texts, row):
         return None
     place, text, one, other, height = row
     graph, names = field.graph, field.registers
-    if not is_place(graph.program, place) or not isinstance(text, str) or text not in texts:
+    if not is_place(graph.plan, place) or not isinstance(text, str) or text not in texts:
         return None
     if not all([isinstance(name, str) and name in names for name in (one, other)]) or one == other:
         return None
@@ -84,9 +84,9 @@ def shows_rising(field, points, one, other, value):
     """Whether a Rising shows that the difference of two registers rises without end at some nodes."""
     graph = field.graph
     run, ring, on = value.run, value.ring, value.on
-    if not is_run(graph.program, run) or not is_ring(graph.program, ring) or ring[0] != run[-1]:
+    if not is_run(graph.plan, run) or not is_ring(graph.plan, ring) or ring[0] != run[-1]:
         return False
-    if not is_run(graph.program, on, ring[0]):
+    if not is_run(graph.plan, on, ring[0]):
         return False
     begun, row = field.effect_along(run)
     turned, row_again = field.steps.of_run(ring, row, graph.said)

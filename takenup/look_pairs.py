@@ -74,7 +74,7 @@ def holds_by(ties, numbers, many):
 
 def goes_on_by(field, told, place, row):
     """Whether what is told of a pair node meets what its steps want, and is enough for what is told behind them."""
-    if place == field.program.end:
+    if place == field.plan.end:
         return True
     numbers = told[(place, row)]
     for one, other, number, _, _ in field.wants_at(place, row):
@@ -82,7 +82,7 @@ def goes_on_by(field, told, place, row):
             return False
     behind = laid(row, field.graph.said[place])
     effect = field.both_effects(place, row)
-    for after in field.program.after(place):
+    for after in field.plan.after(place):
         if (after, behind) not in told or not follows(numbers, effect, told[(after, behind)], field.many):
             return False
     return True

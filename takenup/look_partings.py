@@ -63,18 +63,43 @@ def parts_on_axis(program, machine, axis, row, other_row, held, value, second):
 
     The rows are those of both machines' words behind the run.
     """
-    run, run_on, inside, what = value.parts
-    said = [said_by(step) for step in program.steps]
-    begun, _ = StepEffects(program, machine, axis).of_run(run, Standing.first().row, said)
-    source, number = sum_at_spot(program, machine, axis, row, run_on, inside, what)
-    other_source, other_number = sum_at_spot(second, machine, axis, other_row, run_on, inside, what)
+    begun, told, other_told = sums_parted(program, machine, axis, row, other_row, value, second)
+    other_source, other_number = other_told
     if other_source == 0 and held is None:
         return True
     if other_source == 0:
-        other_source, other_number = held[0], held[1] + other_number
-    first, added = begun[source]
-    other_first, other_added = begun[other_source]
-    return first != other_first or added + number != other_added + other_number
+        other_told = (held[0], held[1] + other_number)
+    return sum_ahead(begun, told) != sum_ahead(begun, other_told)
+
+
+def position_wanted(program, machine, axis, other_row, value):
+    """The sum that a Parting wants of the position, of the registers ahead of its run, with the effect of the run.
+
+    The sum is None if what the other machine has at the spot does not come from its position.
+    """
+    row = row_along(program, value.run, Standing.first().row)
+    begun, told, other_told = sums_parted(program, machine, axis, row, other_row, value, program)
+    other_source, other_number = other_told
+    if other_source != 0:
+        return begun, None
+    source, number = sum_ahead(begun, told)
+    return begun, (source, number - other_number)
+
+
+def sums_parted(program, machine, axis, row, other_row, value, second):
+    """The effect of a Parting's run, and the sums of both machines at its spot, of registers ahead of the run on."""
+    run, run_on, inside, what = value.parts
+    said = [said_by(step) for step in program.steps]
+    begun, _ = StepEffects(program, machine, axis).of_run(run, Standing.first().row, said)
+    told = sum_at_spot(program, machine, axis, row, run_on, inside, what)
+    return begun, told, sum_at_spot(second, machine, axis, other_row, run_on, inside, what)
+
+
+def sum_ahead(effect, told):
+    """The sum ahead of an effect that a sum behind it comes from."""
+    source, number = told
+    first, added = effect[source]
+    return (first, added + number)
 
 
 def sum_at_spot(program, machine, axis, row, run_on, inside, what):

@@ -72,7 +72,7 @@ def need_opening(graph, machine, value):
     if not isinstance(value, (tuple, list)) or len(value) != 4:
         raise BadPaper("openings")
     place, words, other, held = value
-    at = node_at(graph, place, words) if is_place(graph.program, place) else None
+    at = node_at(graph, place, words) if is_place(graph.plan, place) else None
     if at is None or not is_number_words(machine, other) or not is_held(machine, held):
         raise BadPaper("openings")
     return (at, number_row(other), held_pair(machine, held))
@@ -91,7 +91,7 @@ def need_plain_opening(runs, value):
     if not isinstance(value, (tuple, list)) or len(value) != 3:
         raise BadPaper("openings")
     place, words, other = value
-    if not is_place(runs.program, place) or not is_plain_node(runs, place, words) or not is_plain_words(other):
+    if not is_place(runs.plan, place) or not is_plain_node(runs, place, words) or not is_plain_words(other):
         raise BadPaper("openings")
     return (place, plain_row(words), plain_row(other))
 

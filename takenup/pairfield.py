@@ -36,7 +36,7 @@ class PairField:
 
     def __init__(self, graph, second, machine, axis, memory=None, names=None, other_names=None):
         self.graph = graph
-        self.program = graph.program
+        self.plan = graph.plan
         self.second = second
         self.axis = axis
         self.many = len(machine.registers)
@@ -44,9 +44,9 @@ class PairField:
         self.names = [f"{place}" for place in range(second.end)] if names is None else names
         self.other_names = other_names
         if other_names is None:
-            is_same = second == graph.program
+            is_same = second == graph.plan
             self.other_names = self.names if is_same else [f"other {place}" for place in range(second.end)]
-        self.firsts = StepEffects(graph.program, machine, axis, self.names, self.memory.effects)
+        self.firsts = StepEffects(graph.plan, machine, axis, self.names, self.memory.effects)
         self.others = StepEffects(second, machine, axis, self.other_names, self.memory.effects)
         self.effects = {}
 
@@ -70,11 +70,11 @@ class PairField:
 
     def wants_at(self, place, row):
         """The wants of the steps of a place under words, none at the end."""
-        if place == self.program.end:
+        if place == self.plan.end:
             return []
         key = (self.names[place], self.other_names[place], row)
         if key not in self.memory.wants:
-            step, second = self.program[place], self.second[place]
+            step, second = self.plan[place], self.second[place]
             wants, _, _ = step_wants(self.many, self.axis, step, second, row[:NODE], row[NODE:])
             self.memory.wants[key] = wants
         return self.memory.wants[key]

@@ -1,7 +1,7 @@
 """Runs, runs on and rings of a program, and their order."""
 
-from takenup.checks import is_within
-from takenup.errors import BadProgram, BadRun
+from takenup.checks import is_integer, is_within
+from takenup.errors import BadProgram, BadRun, NoPlace
 from takenup.needs import is_place, need_place, need_program
 
 MOST_DONE = 1000
@@ -62,14 +62,7 @@ def least_run(program, place, begin=None):
     need_program(program)
     need_place(program, place)
     need_begin(program, begin)
-    steps = steps_to(program, place)
-    ahead = [at for at in begin_places(program, begin) if at in steps]
-    if len(ahead) == 0:
-        return None
-    run = [nearest(ahead, steps)]
-    while run[-1] != place:
-        run.append(nearest([at for at in program.after(run[-1]) if at in steps], steps))
-    return tuple(run)
+    return first_run_to(program, place, begin_places(program, begin), None)
 
 
 def passes(program, place, other):
@@ -77,15 +70,19 @@ def passes(program, place, other):
     need_program(program)
     need_place(program, place)
     need_place(program, other)
-    queue = [start for start in program.starts if start != other]
-    seen = {start: True for start in queue}
-    while len(queue) > 0:
-        reached = queue.pop()
-        for after in program.after(reached):
-            if after != other and after not in seen:
-                seen[after] = True
-                queue.append(after)
-    return place != other and place not in seen
+    return place != other and first_run_to(program, place, program.starts, other) is None
+
+
+def need_other_place(program, place, other):
+    """Refuses any value that is no place of the program, and the place itself."""
+    if not is_place(program, other) or other == place:
+        raise NoPlace(other)
+
+
+def last_visit(run, other):
+    """The greatest index ahead of the last one at which a run is at any value as a place, None if it has not been."""
+    visits = [at for at, place in enumerate(run[:-1]) if is_integer(other) and place == other]
+    return visits[-1] if len(visits) > 0 else None
 
 
 def need_begin(program, begin):
@@ -142,12 +139,24 @@ def run_behind(program, run, begins, layers):
     return None
 
 
-def steps_to(program, place):
-    """For each place from which some run on leads to place: the fewest steps of one."""
+def first_run_to(program, place, begins, barred):
+    """The first run from one of these places that stands at a place and is not at the barred one, None without any."""
+    steps = steps_to(program, place, barred)
+    ahead = [at for at in begins if at in steps]
+    if len(ahead) == 0:
+        return None
+    run = [nearest(ahead, steps)]
+    while run[-1] != place:
+        run.append(nearest([at for at in program.after(run[-1]) if at in steps], steps))
+    return tuple(run)
+
+
+def steps_to(program, place, barred):
+    """For each place from which some run on leads to place, not by the barred one: the fewest steps of one."""
     steps = {place: 0}
     layer = [place]
     while len(layer) > 0:
-        ahead = [at for at in layer_ahead(program, layer) if at not in steps]
+        ahead = [at for at in layer_ahead(program, layer) if at not in steps and at != barred]
         for at in ahead:
             steps[at] = steps[layer[0]] + 1
         layer = ahead

@@ -17,7 +17,7 @@ class PlainSides:
     """
 
     def __init__(self, program, second, begins):
-        self.program = program
+        self.plan = program
         self.second = second
         self.graph = WordGraph(program, plain_pair_said(program, second), MOST_POINTS)
         self.parting = None
@@ -36,12 +36,12 @@ class PlainSides:
     def compare_at(self, at):
         """Compares the machines in the steps at a plain pair node."""
         place, row = self.graph.points[at]
-        if place == self.program.end:
+        if place == self.plan.end:
             return
-        parted = parted_plain(self.program[place], self.second[place], row[:PLAIN], row[PLAIN:])
+        parted = parted_plain(self.plan[place], self.second[place], row[:PLAIN], row[PLAIN:])
         if parted is not None:
             inside, what = parted
-            run_on = self.graph.run_to(at) + self.program.after(place)[:1]
+            run_on = self.graph.run_to(at) + self.plan.after(place)[:1]
             begun, begun_row = self.graph.points[self.graph.begin_of(at)]
             self.parting = (begun, begun_row[:PLAIN], run_on, inside, what)
 
@@ -61,7 +61,7 @@ class PlainRuns:
     """
 
     def __init__(self, program):
-        self.program = program
+        self.plan = program
         self.said = said_rows(program, Standing.PLAIN_NAMES)
         self.aheads = [places_ahead(program, place) for place in range(program.end + 1)]
 
@@ -73,7 +73,7 @@ class PlainRuns:
         done = 0
         while done < len(queue):
             reached, needed = queue[done]
-            if reached in self.program.starts and is_met(needed, first):
+            if reached in self.plan.starts and is_met(needed, first):
                 return places_along(links, queue[done])
             fresh = [key for key in self.keys_ahead(reached, needed) if key not in links]
             for key in fresh:

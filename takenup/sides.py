@@ -2,10 +2,10 @@
 
 from takenup.asking import Asking
 from takenup.graph import MOST_POINTS
-from takenup.ground import NodeField, difference_along
+from takenup.ground import NodeField
 from takenup.pairfield import Opening, PairField, pair_graph
 from takenup.ties import difference
-from takenup.unlike import unlike_runs
+from takenup.unlike import run_apart
 
 
 class Sides:
@@ -17,7 +17,7 @@ class Sides:
     def __init__(self, base, machine, second, begins):
         self.base = base
         self.machine = machine
-        self.graph = pair_graph(base.program, second, MOST_POINTS)
+        self.graph = pair_graph(base.plan, second, MOST_POINTS)
         self.begins = [(node, self.entered(node, other)) for node, other in begins]
         self.fields = {axis: PairField(self.graph, second, machine, axis) for axis in machine.axes}
         self.grounds = {axis: NodeField(base, machine, axis) for axis in machine.axes}
@@ -64,7 +64,4 @@ def run_against(field, opening, pair, number):
     if other == 0 and opening.held is None:
         return field.graph.run_to(opening.node)
     source, added = opening.held if other == 0 else (other, 0)
-    for run in unlike_runs(field, opening.node, one, source) or ():
-        if difference_along(field, run, one, source) != number + added:
-            return run
-    return field.graph.run_to(opening.node)
+    return run_apart(field, opening.node, one, source, number + added)

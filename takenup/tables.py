@@ -37,10 +37,7 @@ class Table(Paper):
         return self.ties[(place, str(words), axis)]
 
     def __contains__(self, x):
-        if not isinstance(x, (tuple, list)) or len(x) != 2:
-            return False
-        place, words = x
-        return is_integer(place) and isinstance(words, Standing) and (place, str(words)) in self.known
+        return is_node_of(self.known, x)
 
     def __len__(self):
         return len(self.pairs)
@@ -75,7 +72,11 @@ def differences(program, machine):
 
 def table_of(graph, machine):
     """The Table of all differences at the nodes of a graph."""
-    ties = [NodeField(graph, machine, axis).all_ties() for axis in machine.axes]
+    return table_with(graph, machine, [NodeField(graph, machine, axis).all_ties() for axis in machine.axes])
+
+
+def table_with(graph, machine, ties):
+    """The Table of the ties of each axis at the nodes of a graph."""
     rows = []
     for at in points_in_order(graph):
         place, row = graph.points[at]
@@ -106,6 +107,14 @@ def nodes_by_text(ties):
         if read[text] is not None:
             found[(place, text)] = (place, read[text])
     return found
+
+
+def is_node_of(known, value):
+    """Whether any value is the pair of a place and a Standing that are known by the text of the Standing."""
+    if not isinstance(value, (tuple, list)) or len(value) != 2:
+        return False
+    place, words = value
+    return is_integer(place) and isinstance(words, Standing) and (place, str(words)) in known
 
 
 def tie_with(ties, name):

@@ -56,10 +56,8 @@ def choices(program, machine, place):
     need_both(program, machine)
     need_place(program, place)
     offers = Offers(program, machine, (place,), machine.axes)
-    for words in choosable_words(program, machine, place):
-        found = options_for(offers, place, words)
-        if found is not None:
-            yield Choice(words, found)
+    for words, told in offered(program, machine, offers, place):
+        yield Choice(words, told)
 
 
 def choosable_words(program, machine, place):
@@ -88,34 +86,59 @@ def take_up(program, machine, place):
     """The least target with what shows that it serves, or why none does."""
     need_both(program, machine)
     need_place(program, place)
+    refused = refused_word(program, place)
+    if refused is not None:
+        return refused
+    offers = Offers(program, machine, (place,), machine.axes)
+    found = offered(program, machine, offers, place)
+    if len(found) == 0:
+        return refusal(offers, place)
+    target = least_target(machine, wanted_words(program, place), found)
+    return TakenUp(target, served_at(program, machine, place, target))
+
+
+def refused_word(program, place):
+    """The RefusedWord of the first plain word that is wanted with two values, None if there is none."""
     for name in Standing.PLAIN_NAMES:
         values = wanted(program, place, name)
         if len(values) > 1:
             return RefusedWord(name, values[0], values[1])
-    offers = Offers(program, machine, (place,), machine.axes)
-    target = least_target(program, machine, offers, place)
-    if target is None:
-        left = Standing()
-        return Refused([refused_row(offers, place, words) for words in left.fillings(machine)])
-    return TakenUp(target, served_at(program, machine, place, target))
+    return None
 
 
-def least_target(program, machine, offers, place):
-    """The least target that serves a place, where no plain word is wanted with two values; None if none does."""
+def refusal(offers, place):
+    """The Refused of a place that has no choice."""
+    left = Standing()
+    return Refused([refused_row(offers, place, words) for words in left.fillings(offers.machine)])
+
+
+def offered(program, machine, offers, place):
+    """The list of the choices of a place, each as its words and the tuple of the options of each axis."""
+    found = []
+    for words in choosable_words(program, machine, place):
+        told = options_for(offers, place, words)
+        if told is not None:
+            found.append((words, told))
+    return found
+
+
+def wanted_words(program, place):
+    """The Standing of the plain words that are wanted at a place, none of them with two values."""
     plain = {}
     for name in Standing.PLAIN_NAMES:
         for value, _, _ in wanted(program, place, name):
             plain[name] = value
-    found = {}
-    for words in choosable_words(program, machine, place):
-        told = options_for(offers, place, words)
-        if told is not None:
-            target = target_of(machine, words | Standing(**plain), told)
-            found[str(target)] = target
-    if len(found) == 0:
-        return None
-    fewest = min([len(target) for target in found.values()])
-    return found[min([str(text) for text in found if len(found[text]) == fewest])]
+    return Standing(**plain)
+
+
+def least_target(machine, plain, found):
+    """The least target by the choices that were found, which says these plain words."""
+    targets = {}
+    for words, told in found:
+        target = target_of(machine, words | plain, told)
+        targets[str(target)] = target
+    fewest_entries = min([len(target) for target in targets.values()])
+    return targets[min([str(text) for text in targets if len(targets[text]) == fewest_entries])]
 
 
 def target_of(machine, words, told):

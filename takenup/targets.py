@@ -41,8 +41,9 @@ class Target:
 
     def __or__(self, other):
         need_target(other)
+        words = self.words | other.words
         sums = dict(self.pairs + other.pairs)
-        return Target(self.words | other.words, **sums)
+        return Target(words, **sums)
 
     def is_part_of(self, other):
         """Whether the other target says each word that this one says, alike, and has each sum that this one has."""

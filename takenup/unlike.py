@@ -1,7 +1,7 @@
 """Two runs that show that the difference of two registers at a node is no number."""
 
 from takenup.closure import Closure
-from takenup.ground import asked_field
+from takenup.ground import asked_field, difference_along
 from takenup.papers import Paper
 
 
@@ -30,6 +30,17 @@ def unlike_runs(field, at, one, other):
         run = closure.way_on(closure.free)
         return (run, run)
     return unequal_runs(closure)
+
+
+def run_apart(field, at, one, other, number):
+    """A run that stands at a node and on which the difference of two registers is not this number.
+
+    There is one: the difference at the node is not this number.
+    """
+    for run in unlike_runs(field, at, one, other) or ():
+        if difference_along(field, run, one, other) != number:
+            return run
+    return field.graph.run_to(at)
 
 
 def unequal_runs(closure):

@@ -3,16 +3,24 @@
 import random
 
 from takenup.alike import Alike, Unalike
+from takenup.back import Back, NoWay, Since
 from takenup.blocks import Block, Here, Home, Lay, Move, Touch
+from takenup.controls import Control
+from takenup.cuts import Cuts, Endless
+from takenup.desk import Desk
+from takenup.desk_lines import Line
 from takenup.errors import BadText, ToolError
 from takenup.heights import Free, Most, Rising
 from takenup.items import Round, Skip, Told
+from takenup.least import Least, Made
 from takenup.machines import Machine
+from takenup.making import Making
 from takenup.maps import Shift
 from takenup.marks import Mark
 from takenup.pairs import PairTable, Parting, PlainTable, Want
 from takenup.papers import Denial, Paper
 from takenup.powers import Rounds
+from takenup.preambles import Preamble
 from takenup.programs import Program
 from takenup.runs import Played
 from takenup.serving import Served, Unserved
@@ -21,7 +29,9 @@ from takenup.stands import Stand
 from takenup.sums import Sum
 from takenup.tables import Table
 from takenup.takeups import Choice, Refused, RefusedRow, RefusedWord, TakenUp
+from takenup.tapes import Row, Tape
 from takenup.targets import Target
+from takenup.trials import Trial
 from takenup.unlike import Unlike
 
 
@@ -34,8 +44,14 @@ def any_values():
         Standing(), Standing.first(), Move(x=1), Here(x=1), Lay(x=1), Home("x"), Touch("x"), Block(),
         Block(None, Move(x=1)), Skip(Block()), Round(Block()), Told(2, Block()), Program(Block()), Sum("p"),
         Shift(Machine()), Stand(Machine()), Mark("rapid", (0,)), Paper("most", 1), Denial("ring"), Rounds(0, 1, 0),
-        BadText(0, 0), Target(), Target(Standing(zero=3), x=Sum("z0")), *strange_papers(),
+        BadText(0, 0), Target(), Target(Standing(zero=3), x=Sum("z0")), Preamble(), Preamble.read("rapid home x"),
+        *strange_papers(), Line("step", 1), Desk(), new_control(), Trial(new_control()),
     ]
+
+
+def new_control():
+    """A control at its beginning."""
+    return Control(Program(Block()), Machine(), Stand(Machine()))
 
 
 def strange_papers():
@@ -49,7 +65,10 @@ def strange_papers():
         PairTable("x", ((0, 1, 2, 3), ({0}, {0}, {0}, {0}))), PairTable("x", ()), PlainTable(None),
         PlainTable(((0, {0}, 1),)), PlainTable(()), Alike(None, None), Alike((1,), PlainTable(())), Unalike(None, None),
         Unalike(Parting(run, run, (), "ends"), {0}), Served(0, 0, 0, 0, 0), Unserved(0, 0, 0), Choice(0, 0),
-        TakenUp(0, 0), RefusedWord(0, 0, 0), Refused(0), RefusedRow(0, 0, 0),
+        TakenUp(0, 0), RefusedWord(0, 0, 0), Refused(0), RefusedRow(0, 0, 0), Making(Standing(), ()), Making(0, 0),
+        Made(0, 0), Made(Preamble(), ((0, 0),)), Least(0, 0), Since(0, 0, 0), Since(0, Table(()), ((0, "-", "x", 0),)),
+        Back(0, 0, 0), NoWay(0, 0, 0), Cuts(0, 0, 0), Cuts(0, run, ((0, "rapid", None),)), Endless(0, 0, 0),
+        Row(0, 0, 0), Row(0, None, ((0,),)), Tape(), Tape(Row(0, None, ((0,),))),
     ]
 
 
@@ -206,3 +225,22 @@ def random_programs(seed, many, depth=3, axes=1, zeros=2, most=3, items=3):
         row = [random_item(chance, depth, axes, zeros, most) for _ in range(chance.randint(1, items))]
         programs.append(Program(*row))
     return programs
+
+
+def programs_of(seed, many, texts, depth=3, items=4):
+    """Programs whose blocks have some of these texts."""
+    chance = random.Random(seed)
+    blocks = [Block.read(text) for text in texts]
+    return [
+        Program(*[item_of(chance, blocks, depth) for _ in range(chance.randint(1, items))]) for _ in range(many)
+    ]
+
+
+def item_of(chance, blocks, depth):
+    roll = chance.random()
+    if depth == 0 or roll < 0.5:
+        return chance.choice(blocks)
+    if roll < 0.6:
+        return Told(chance.randint(1, 3), *[chance.choice(blocks) for _ in range(chance.randint(1, 3))])
+    members = [item_of(chance, blocks, depth - 1) for _ in range(chance.randint(1, 3))]
+    return Skip(*members) if roll < 0.8 else Round(*members)

@@ -36,6 +36,7 @@ DUNDERS = set(
     " neg pos invert abs bool contains getitem setitem".split()
 )
 CHANGING = set("append clear extend insert pop remove reverse setdefault update add discard".split())
+PROPERTIES = set("number_words node_words plain_words sums program tape things lines".split())
 STATEMENTS = (
     ast.Assign, ast.AugAssign, ast.If, ast.While, ast.For, ast.Return, ast.Break, ast.Continue, ast.Pass, ast.Raise,
     ast.Assert, ast.Delete, ast.Nonlocal, ast.With, ast.Try, ast.Expr, ast.FunctionDef, ast.ClassDef, ast.ImportFrom,
@@ -147,6 +148,8 @@ def l3_module_level(source):
         if isinstance(node, (ast.ImportFrom, ast.FunctionDef, ast.ClassDef)):
             continue
         if isinstance(node, ast.Assign) and len(node.targets) == 1 and isinstance(node.targets[0], ast.Name):
+            if is_function_table(source, node):
+                continue
             try:
                 value = ast.literal_eval(node.value)
             except ValueError:
@@ -159,10 +162,24 @@ def l3_module_level(source):
         yield source.at(node, "L3: statement at module level")
 
 
+def is_function_table(source, node):
+    """Whether a dict of plain keys and of functions that are defined above it is assigned."""
+    above = {one.name for one in source.tree.body if isinstance(one, ast.FunctionDef) and one.lineno < node.lineno}
+    return isinstance(node.value, ast.Dict) and all(
+        isinstance(key, ast.Constant) and isinstance(value, ast.Name) and value.id in above
+        for key, value in zip(node.value.keys, node.value.values)
+    )
+
+
+def is_setter(node):
+    return any(isinstance(one, ast.Attribute) and one.attr == "setter" for one in node.decorator_list)
+
+
 def l4_functions(source):
     for node in source.functions():
         for decorator in node.decorator_list:
-            if not (isinstance(decorator, ast.Name) and decorator.id in ("property", "staticmethod")):
+            is_plain_name = isinstance(decorator, ast.Name) and decorator.id in ("property", "staticmethod")
+            if not is_plain_name and not (is_setter(node) and decorator.value.id == node.name):
                 yield source.at(node, "L4: decorator")
         for default in node.args.defaults + [one for one in node.args.kw_defaults if one is not None]:
             try:
@@ -180,7 +197,8 @@ def l5_classes(source):
         names = []
         for node in kind.body:
             if isinstance(node, ast.FunctionDef):
-                names.append(node.name)
+                if not is_setter(node):
+                    names.append(node.name)
             elif isinstance(node, ast.Assign):
                 if not is_class_value(node):
                     yield source.at(node, "L5: class value")
@@ -229,7 +247,7 @@ def l5_double_underscores(source):
                 yield source.at(node, "L28: last statement")
         for one in ast.walk(node):
             if isinstance(one, (ast.Attribute, ast.Subscript)) and isinstance(one.ctx, ast.Store):
-                if node.name != "__init__":
+                if node.name not in ("__init__", "__enter__", "__exit__", "__call__"):
                     yield source.at(one, f"L5: {node.name} changes something")
 
 
@@ -278,13 +296,32 @@ def l7_expressions(source):
             yield source.at(node, "L7: float or bytes")
     for node in source.nodes(ast.Call):
         for one in [arg.value for arg in node.args if isinstance(arg, ast.Starred)]:
-            if not isinstance(one, (ast.Name, ast.Attribute)):
+            if not is_plain_beside_stars(one):
                 yield source.at(node, "L7: behind a star")
         for one in [word.value for word in node.keywords if word.arg is None]:
-            if not isinstance(one, (ast.Name, ast.Attribute)):
+            if not isinstance(one, (ast.Name, ast.Attribute)) or not is_plain_beside_stars(one):
                 yield source.at(node, "L7: behind two stars")
         if sum(isinstance(arg, ast.Starred) for arg in node.args) > 1:
             yield source.at(node, "L7: several stars")
+        if any(word.arg is None for word in node.keywords):
+            if len(node.keywords) > 1 or not all(is_plain_beside_stars(arg) for arg in node.args):
+                yield source.at(node, "L7: beside two stars")
+    for node in source.nodes(ast.stmt):
+        lambdas = [one for one in ast.walk(node) if isinstance(one, ast.Lambda)]
+        rows = [(one.lineno, tuple(arg.arg for arg in one.args.args)) for one in lambdas]
+        if len(set(rows)) != len(rows):
+            yield source.at(node, "L13: two lambdas on a line")
+
+
+def is_plain_beside_stars(node):
+    """Whether a name, an attribute off a name, a literal, or a list, tuple or dict of these stands there."""
+    if isinstance(node, (ast.List, ast.Tuple)):
+        return all(is_plain_beside_stars(one) for one in node.elts)
+    if isinstance(node, ast.Dict):
+        return all(is_plain_beside_stars(one) for one in node.keys + node.values)
+    return isinstance(node, (ast.Name, ast.Constant)) or isinstance(node, ast.Attribute) and isinstance(
+        node.value, ast.Name
+    ) and node.attr not in PROPERTIES
 
 
 def l8_builtins(source):

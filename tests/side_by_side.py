@@ -4,6 +4,7 @@ from kinds import random_block
 from plain_play import FIRST, do_block, do_run
 from takenup.blocks import Block
 from takenup.programs import Program
+from takenup.stepping import run_words, step_shift, words_behind
 
 
 class Symbol:
@@ -98,6 +99,34 @@ def parts_at(program, second, machine, axis, other, held, parting):
     for run_on, inside, what, found, one, another in played:
         if (run_on, inside, what, found) == (parting.run_on, parting.inside, parting.what, axis):
             return not one == another
+    return None
+
+
+def wanted_there(program, machine, axis, other, parting):
+    """The want of a Parting at its place: by the wants of its step, pulled back along its run on.
+
+    It is told by the register of the first machine, that of the other one, which has the words other, and the number.
+    """
+    words = run_words(program, parting.run)
+    shifts = []
+    for place in parting.run_on[:-2]:
+        step = program[place]
+        shifts.append((step_shift(machine, words, step, axis), step_shift(machine, other, step, axis)))
+        words, other = words_behind(words, step), words_behind(other, step)
+    one, another, number = want_inside(machine, axis, words, program[parting.run_on[-2]], other, parting)
+    for shift, other_shift in reversed(shifts):
+        first, last = shift[one], other_shift[another]
+        one, another, number = first.source, last.source, number + last.number - first.number
+    return one, another, number
+
+
+def want_inside(machine, axis, words, step, other, parting):
+    numbers, other_numbers = symbols(machine), symbols(machine)
+    held, other_held = dict(words), {"way": "rapid", "tool": 0, "pace": 0, "spindle": "still", **dict(other)}
+    for inside, block in blocks_in_play(step):
+        for what, at, one, another in compared(machine, block, block, held, numbers, other_held, other_numbers):
+            if (inside, what, at) == (parting.inside, parting.what, axis):
+                return one.source, another.source, another.number - one.number
     return None
 
 

@@ -3,7 +3,7 @@ import random
 import unittest
 
 from kinds import Checks, is_integer, random_programs, wrong_values
-from side_by_side import blocks_in_play, compared, parts_at, symbols
+from side_by_side import parts_at, wanted_there
 from takenup.arrivals import arrivals
 from takenup.blocks import Block, Here
 from takenup.errors import BadMachine, BadProgram, NoPlace, TooMany
@@ -15,7 +15,7 @@ from takenup.papers import Denial, Paper
 from takenup.programs import Program
 from takenup.serving import options, serves
 from takenup.standing import Standing, values_of
-from takenup.stepping import run_shift, run_words, step_shift, words_behind
+from takenup.stepping import run_shift, run_words
 from takenup.sums import Sum
 from takenup.takeups import Choice, Refused, RefusedRow, RefusedWord, TakenUp, choices, take_up, takeable
 from takenup.targets import Target
@@ -166,7 +166,7 @@ class TakeUpTest(Checks, unittest.TestCase):
         self.assertTrue(all(type(one) is Parting and one.run[-1] == place for one in row.partings))
         self.assertTrue(shows_parting(program, machine, row.axis, row.words, None, first))
         self.assertTrue(parts_at(program, program, machine, row.axis, row.words, None, first))
-        one, another, number = self.wanted_there(program, machine, row, first)
+        one, another, number = wanted_there(program, machine, row.axis, row.words, first)
         if another != "p":
             self.assertEqual([], others)
             return
@@ -179,31 +179,6 @@ class TakeUpTest(Checks, unittest.TestCase):
             self.assertTrue(parts_at(program, program, machine, row.axis, row.words, held, parting))
             openings = [(place, words, row.words, held) for words, _ in arrivals(program, place)]
             self.assertFalse(pair_table(program, machine, row.axis, openings))
-
-    def wanted_there(self, program, machine, row, parting):
-        """The want of a Parting at its place: by the wants of its step, pulled back along its run on."""
-        words, other = run_words(program, parting.run), row.words
-        shifts = []
-        for place in parting.run_on[:-2]:
-            step = program[place]
-            shifts.append((
-                step_shift(machine, words, step, row.axis), step_shift(machine, other, step, row.axis)
-            ))
-            words, other = words_behind(words, step), words_behind(other, step)
-        one, another, number = self.want_inside(machine, row.axis, words, program[parting.run_on[-2]], other, parting)
-        for shift, other_shift in reversed(shifts):
-            first, last = shift[one], other_shift[another]
-            one, another, number = first.source, last.source, number + last.number - first.number
-        return one, another, number
-
-    def want_inside(self, machine, axis, words, step, other, parting):
-        numbers, other_numbers = symbols(machine), symbols(machine)
-        held, other_held = dict(words), {"way": "rapid", "tool": 0, "pace": 0, "spindle": "still", **dict(other)}
-        for inside, block in blocks_in_play(step):
-            for what, at, one, another in compared(machine, block, block, held, numbers, other_held, other_numbers):
-                if (inside, what, at) == (parting.inside, parting.what, axis):
-                    return one.source, another.source, another.number - one.number
-        return None
 
     def test_refusals_by_hand(self):
         machine = Machine(1, 1)

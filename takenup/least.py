@@ -1,0 +1,56 @@
+"""Preambles with the fewest entries: those that make a target, and those that serve a place."""
+
+from takenup.making import making_of, need_target_for, plain_entries, sums_of
+from takenup.needs import need_both, need_place
+from takenup.offers import Offers
+from takenup.papers import Paper
+from takenup.prices import cheapest_target
+from takenup.routes import Routes, preamble_along
+from takenup.serving import served_at
+from takenup.takeups import offered, refusal, refused_word, wanted_words
+from takenup.word_rows import number_row
+
+
+class Made(Paper):
+    """A preamble that makes a target, and the makings that show that no fewer entries lead to it."""
+
+    def __init__(self, preamble, rows):
+        Paper.__init__(self, "made", preamble, rows)
+        self.preamble, self.rows = self.parts
+
+
+class Least(Paper):
+    """A preamble with the fewest entries of all that serve a place, and what shows that it serves."""
+
+    def __init__(self, preamble, served):
+        Paper.__init__(self, "least", preamble, served)
+        self.preamble, self.served = self.parts
+
+
+def fewest(machine, target):
+    """A Made of a preamble with the fewest entries of all that make a target."""
+    need_target_for(machine, target)
+    routes = Routes(machine.zeros, sums_of(target))
+    state = routes.made_state(number_row(target.words))
+    preamble = preamble_along(target, routes.states_to(state))
+    rest = len(preamble) - plain_entries(target)
+    found = routes.entries
+    return Made(preamble, [(making_of(reached), found[reached]) for reached in found if found[reached] < rest])
+
+
+def least_preamble(program, machine, place):
+    """A Least of a preamble that serves a place, or why none does."""
+    need_both(program, machine)
+    need_place(program, place)
+    refused = refused_word(program, place)
+    if refused is not None:
+        return refused
+    offers = Offers(program, machine, (place,), machine.axes)
+    found = offered(program, machine, offers, place)
+    if len(found) == 0:
+        return refusal(offers, place)
+    target = cheapest_target(machine, wanted_words(program, place), found)
+    routes = Routes(machine.zeros, sums_of(target))
+    state = routes.made_state(number_row(target.words))
+    preamble = preamble_along(target, routes.states_to(state))
+    return Least(preamble, served_at(program, machine, place, preamble.outcome(machine)))
