@@ -30,9 +30,8 @@ class Least(Paper):
 def fewest(machine, target):
     """A Made of a preamble with the fewest entries of all that make a target."""
     need_target_for(machine, target)
-    routes = Routes(machine.zeros, sums_of(target))
-    state = routes.made_state(number_row(target.words))
-    preamble = preamble_along(target, routes.states_to(state))
+    routes = routes_for(machine, target)
+    preamble = short_preamble(target, routes)
     rest = len(preamble) - plain_entries(target)
     found = routes.entries
     return Made(preamble, [(making_of(reached), found[reached]) for reached in found if found[reached] < rest])
@@ -50,7 +49,15 @@ def least_preamble(program, machine, place):
     if len(found) == 0:
         return refusal(offers, place)
     target = cheapest_target(machine, wanted_words(program, place), found)
-    routes = Routes(machine.zeros, sums_of(target))
+    return Least(short_preamble(target, routes_for(machine, target)), served_at(program, machine, place, target))
+
+
+def routes_for(machine, target):
+    """The routes to the sums of a target."""
+    return Routes(machine.zeros, sums_of(target))
+
+
+def short_preamble(target, routes):
+    """A preamble with the fewest entries that makes a target."""
     state = routes.made_state(number_row(target.words))
-    preamble = preamble_along(target, routes.states_to(state))
-    return Least(preamble, served_at(program, machine, place, preamble.outcome(machine)))
+    return preamble_along(target, routes.states_to(state))

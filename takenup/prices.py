@@ -2,6 +2,7 @@
 
 from takenup.making import plain_entries, sums_of
 from takenup.routes import Routes, kind_sum
+from takenup.takeups import least_target
 from takenup.targets import Target
 from takenup.word_rows import number_row
 
@@ -24,14 +25,19 @@ class Prices:
         routes = self.known[key]
         return routes.entries[routes.made_state(row)]
 
-    def floor_for(self, row, sums):
-        """No more entries than are needed, found in a moment: those of one axis, and what the others add at least."""
+    def price_of(self, target):
+        """How many entries make a target."""
+        return plain_entries(target) + self.entries_for(number_row(target.words), sums_of(target))
+
+    def floor_of(self, target):
+        """No more entries than make a target, found in a moment: those for one axis, and what others add at least."""
+        row, sums = number_row(target.words), sums_of(target)
         floor = self.entries_for(row, ())
         added = sum([least_moves(told) for told in sums])
         for told in sums:
             alone = self.entries_for(row, (told,))
             floor = max(int(floor), int(alone + added - least_moves(told)))
-        return floor
+        return plain_entries(target) + floor
 
 
 def least_moves(told):
@@ -44,24 +50,25 @@ def least_moves(told):
 
 
 def cheapest_target(machine, plain, found):
-    """The target with the fewest entries to make it, of those that say plain words and the words of a choice.
+    """A target with the fewest entries to make it, of those that say plain words and the words of a choice.
 
-    Found are the choices, each as its words and the options of each axis. Targets that may need few entries come
-    first, those with few registers ahead, so that most are never counted out.
+    Found are the choices, each as its words and the options of each axis. It is the least target, unless another one
+    is made by fewer entries. Those that may need few come first, those with few registers ahead, so that most are never
+    counted out.
     """
-    targets = [target for words, told in found for target in targets_of(machine, words | plain, told)]
     prices = Prices(machine.zeros)
-    floors = [plain_entries(one) + prices.floor_for(number_row(one.words), sums_of(one)) for one in targets]
+    best = least_target(machine, plain, found)
+    fewest_entries = prices.price_of(best)
+    targets = [target for words, told in found for target in targets_of(machine, words | plain, told)]
+    floors = [prices.floor_of(target) for target in targets]
     ranks = [floor * (MOST_AXES + 1) + sources_in(one) for floor, one in zip(floors, targets)]
-    best, fewest_entries = None, 0
     for code in sorted([int(rank * len(targets) + at) for at, rank in enumerate(ranks)]):
         at = code % len(targets)
-        if best is not None and floors[at] >= fewest_entries:
+        if floors[at] >= fewest_entries:
             return best
-        target = targets[at]
-        many = plain_entries(target) + prices.entries_for(number_row(target.words), sums_of(target))
-        if best is None or many < fewest_entries:
-            best, fewest_entries = target, many
+        many = prices.price_of(targets[at])
+        if many < fewest_entries:
+            best, fewest_entries = targets[at], many
     return best
 
 
