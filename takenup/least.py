@@ -1,6 +1,7 @@
 """Preambles with the fewest entries: those that make a target, and those that serve a place."""
 
-from takenup.making import making_of, need_target_for, plain_entries, sums_of
+from takenup.machines import need_machine
+from takenup.making import making_of, plain_entries, sums_of
 from takenup.needs import need_both, need_place
 from takenup.offers import Offers
 from takenup.papers import Paper
@@ -8,6 +9,7 @@ from takenup.prices import cheapest_target
 from takenup.routes import Routes, preamble_along
 from takenup.serving import served_at
 from takenup.takeups import offered, refusal, refused_word, wanted_words
+from takenup.targets import need_fitting_target
 from takenup.word_rows import number_row
 
 
@@ -29,7 +31,8 @@ class Least(Paper):
 
 def fewest(machine, target):
     """A Made of a preamble with the fewest entries of all that make a target."""
-    need_target_for(machine, target)
+    need_machine(machine)
+    need_fitting_target(machine, target)
     routes = routes_for(machine, target)
     preamble = short_preamble(target, routes)
     rest = len(preamble) - plain_entries(target)

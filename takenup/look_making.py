@@ -3,17 +3,19 @@
 from takenup.checks import is_integer
 from takenup.least import Least, Made
 from takenup.look_takeups import shows_served
-from takenup.making import begun, is_made, is_right, need_target_for, next_states, plain_entries, sums_of
+from takenup.machines import need_machine
+from takenup.making import begun, is_made, is_right, next_states, plain_entries, sums_of
 from takenup.needs import need_both, need_place
 from takenup.preambles import Preamble
 from takenup.serving import Served
-from takenup.targets import Target
+from takenup.targets import Target, need_fitting_target
 from takenup.word_rows import number_row
 
 
 def shows_made(machine, target, value):
     """Whether any value is a Made of a preamble that makes a target, and shows that no fewer entries do."""
-    need_target_for(machine, target)
+    need_machine(machine)
+    need_fitting_target(machine, target)
     if not isinstance(value, Made) or not makes(machine, value.preamble, target):
         return False
     rest = len(value.preamble) - plain_entries(target)

@@ -1,6 +1,5 @@
 """Looking whether papers show that a target serves, that it does not, or why a place is refused."""
 
-from takenup.errors import BadTarget
 from takenup.graph import node_graph, plain_rows_at
 from takenup.look_alike import opened_rows, told_ties
 from takenup.look_pairs import pairs_hold, plains_hold
@@ -13,7 +12,7 @@ from takenup.places import is_run
 from takenup.serving import Served, Unserved
 from takenup.standing import Standing, is_value
 from takenup.takeups import Refused, RefusedRow, RefusedWord, TakenUp
-from takenup.targets import Target
+from takenup.targets import Target, need_fitting_target
 from takenup.uses import first_seen
 from takenup.word_rows import WAY, number_row, plain_row
 
@@ -61,10 +60,7 @@ def shows_unserved(program, machine, place, target, value):
     """Whether any value is an Unserved that shows that a target does not serve a place."""
     need_both(program, machine)
     need_place(program, place)
-    if not isinstance(target, Target):
-        raise BadTarget("target")
-    if not target.fits(machine):
-        raise BadTarget("fit")
+    need_fitting_target(machine, target)
     if not isinstance(value, Unserved) or not is_parting_at(program, place, value.parting):
         return False
     part, words, parting = value.parts

@@ -1,10 +1,10 @@
 """Makings: how far a preamble is on its way to a target, and where one more entry leads."""
 
-from takenup.errors import BadPaper, BadTarget, BadWords
+from takenup.errors import BadPaper, BadWords
 from takenup.machines import need_machine
 from takenup.papers import Paper
 from takenup.standing import CHOSEN, LENGTHS, Standing, word_text
-from takenup.targets import Target
+from takenup.targets import need_a_target, need_fitting_target
 from takenup.word_rows import number_row, words_of
 
 GRADES = ("away", "base", "fine", "coarse", "there")
@@ -64,26 +64,13 @@ def plain_entries(target):
 
 def next_makings(machine, target, making):
     """Yields the entry and the making for each other making to which one entry leads."""
-    need_target_for(machine, target)
+    need_machine(machine)
+    need_fitting_target(machine, target)
     if not is_right(machine, target, making):
         raise BadPaper("making")
     state = (number_row(making.words), making.grades)
     for after in next_states(machine.zeros, sums_of(target), state):
         yield (entry_between(target.axes, state, after), making_of(after))
-
-
-def need_a_target(target):
-    """Refuses any value that is no target."""
-    if not isinstance(target, Target):
-        raise BadTarget("target")
-
-
-def need_target_for(machine, target):
-    """Refuses what is no machine, and what is no target that fits it."""
-    need_machine(machine)
-    need_a_target(target)
-    if not target.fits(machine):
-        raise BadTarget("fit")
 
 
 def is_right(machine, target, making):

@@ -1,6 +1,6 @@
 """Whether a target serves a place, and which options an axis has."""
 
-from takenup.errors import BadTarget, BadWords
+from takenup.errors import BadWords
 from takenup.graph import node_graph, plain_graph
 from takenup.needs import need_both, need_place
 from takenup.offers import Offers
@@ -11,7 +11,7 @@ from takenup.sides import Sides
 from takenup.standing import Standing
 from takenup.stepping import need_axis
 from takenup.tables import table_of
-from takenup.targets import Target
+from takenup.targets import need_fitting_target
 from takenup.word_rows import number_row, plain_row
 
 
@@ -35,10 +35,7 @@ def serves(program, machine, place, target):
     """Whether a target serves a place: a Served or an Unserved."""
     need_both(program, machine)
     need_place(program, place)
-    if not isinstance(target, Target):
-        raise BadTarget("target")
-    if not target.fits(machine):
-        raise BadTarget("fit")
+    need_fitting_target(machine, target)
     return served_at(program, machine, place, target)
 
 

@@ -87,6 +87,19 @@ def need_target(other):
         raise BadTarget("other")
 
 
+def need_a_target(target):
+    """Refuses any value that is no Target, where it is asked for as such."""
+    if not isinstance(target, Target):
+        raise BadTarget("target")
+
+
+def need_fitting_target(machine, target):
+    """Refuses any value that is no Target, and a Target that does not fit the machine."""
+    need_a_target(target)
+    if not target.fits(machine):
+        raise BadTarget("fit")
+
+
 def sums_text(pairs):
     """The text of axes and their sums."""
     return " ".join([f"{axis} {told}" for axis, told in pairs]) or "-"
