@@ -327,6 +327,28 @@ class LookTest(Checks, unittest.TestCase):
             self.assertIs(shows, shows_cuts(program, 3, 0, Cuts(3, told.run, more)))
         self.assertFalse(shows_cuts(program, 3, 0, Cuts(3, told.run, ((2, "rapid", 3), (3, "rapid", 2)) + told.rows)))
 
+    def test_rings(self):
+        """A ring must have a cut, and leave the way as it was."""
+        program = Program.read("x 0 ; round ( skip ( cut ) ; skip ( rapid ) ; round ( x 1 ) ) ; x 2")
+        for run, ring, on, shown in (
+            ((0, 1, 3), (3, 3), (3, 4), True), ((0, 1, 3), (3, 1, 3), (3, 4), True), ((0, 3), (3, 3), (3, 4), False), ((0, 3), (3, 1, 3), (3, 4), False),
+            ((0, 3), (3, 3, 1, 3), (3, 4), False), ((0, 1, 3), (3, 2, 3), (3, 4), False), ((0, 1, 3), (3, 3, 2, 3), (3, 4), False), ((0, 1), (1, 3, 1), (1, 3, 4), False),
+            ((0, 1, 3, 1), (1, 3, 1), (1, 3, 4), True), ((0, 1, 3), (3, 3), (3, 3, 4), True), ((0, 1, 3), (3, 3), (3,), False), ((0, 1, 3), (3,), (3, 4), False),
+            ((0, 1, 3), (3, 2, 1, 3), (3, 4), False), ((0, 1, 3), (3, 2, 3, 1, 3), (3, 4), True), ((0, 1), (3, 3), (3, 4), False), ((0, 1, 3), (3, 3), (1, 3, 4), False),
+        ):
+            value = Endless(run, ring, on)
+            self.assertIs(shown, shows_cuts(program, 4, 0, value), (run, ring, on))
+            self.assertIs(shown, holds(either_holds, program, 4, 0, value), (run, ring, on))
+        for other, shown in ((0, True), (1, True), (2, False), (3, False)):
+            self.assertIs(shown, shows_cuts(program, 4, other, Endless((0, 1, 3), (3, 3), (3, 4))))
+
+    def test_ways_of_rows(self):
+        program = Program.read("cut x 1 ; x 2")
+        told = most_cuts(program, 1, 0)
+        self.assertTrue(shows_cuts(program, 1, 0, Cuts(told.number, told.run, told.rows + ((2, "rapid", None),))))
+        for way in ("q", "Cut", "", None, 0, "cut ", ("cut",)):
+            self.assertFalse(shows_cuts(program, 1, 0, Cuts(told.number, told.run, told.rows + ((2, way, None),))))
+
     def test_any_value(self):
         program = Program.read("cut x 1 ; round ( x 2 ) ; rapid x 3")
         for place, other in ((2, 1), (2, 0)):

@@ -474,6 +474,9 @@ class DeskTest(Checks, unittest.TestCase):
             (BEGUN + ("break -", "take -"), BEGUN), (BEGUN + ("break -", "part 1 tool 3"), BEGUN + ("break -", "part 0 tool 3")), (BEGUN, BEGUN + ("over x 0 ; on ; x 4",)),
         ):
             self.assertTrue(desk_of(*one) == desk_of(*other) and desk_of(*other) == desk_of(*one), (one, other))
+        skips = ("machine 1 1", "program x 0 ; skip ( x 1 ) ; x 2", "begin machine 1 1 x 3 10 0 0")
+        for one, other in ((("step 1",), ("step 2",)), (("leap 1",), ("leap 2",)), ((), ("step 1",))):
+            self.assertFalse(desk_of(*skips, *one) == desk_of(*skips, *other))
         for value in any_values():
             self.assertIs(isinstance(value, Desk), Desk() == value)
         self.assertFalse(desk_of(*BEGUN) == desk_of(*BEGUN).lines or desk_of(*BEGUN) == desk_of(*BEGUN).control_twin())

@@ -14,6 +14,7 @@ from takenup.machines import Machine
 from takenup.making import by_units
 from takenup.papers import Denial, Paper
 from takenup.preambles import Preamble
+from takenup.prices import Prices
 from takenup.programs import Program
 from takenup.serving import Served, options, serves
 from takenup.standing import Standing, values_of
@@ -22,7 +23,19 @@ from takenup.takeups import choices, take_up
 from takenup.targets import Target
 from takenup.uses import wanted
 
+NUMBERS = (0, 5, 127, 635, 1, -1, -5, -127, 3, 132, 10 ** 30 - 1, -635 * 10 ** 20)
 PATH = Program.read("x 0 ; on ; round ( x 4 ; here x 0 ) ; far x 0")
+
+
+def random_target(chance, machine, chance_of_sum):
+    words = Standing(**{
+        name: chance.choice(values_of(name, machine)) for name in Standing.NAMES if chance.random() < 0.35
+    })
+    sums = {
+        axis: Sum(chance.choice(machine.kept), chance.choice(NUMBERS)) for axis in machine.axes
+        if chance.random() < chance_of_sum
+    }
+    return Target(words, **sums)
 
 
 class Search:
@@ -171,6 +184,30 @@ class LeastTest(Checks, unittest.TestCase):
                                 if len(target) <= len(told.preamble):
                                     lengths.append(len(fewest(machine, target).preamble))
                         self.assertEqual(min(lengths), len(told.preamble))
+
+    def test_prices(self):
+        """Entries are counted by the kinds of the sums alone; what is found in a moment is never too many."""
+        chance = random.Random(434)
+        for machine in (Machine(1, 1), Machine(2, 2), Machine(3, 4)):
+            prices = Prices(machine.zeros)
+            for _ in range(60):
+                target = random_target(chance, machine, 0.9)
+                self.assertEqual(len(fewest(machine, target).preamble), prices.price_of(target), str(target))
+                self.assertLessEqual(prices.floor_of(target), prices.price_of(target))
+
+    def test_all_kinds_of_options(self):
+        """One axis with sums of all kinds to choose from, also of numbers of which both lengths are parts."""
+        for more in ("coarse x 5", "fine x 1", "coarse x 1 ; fine x 1", "coarse x -1 ; fine x 2 ; coarse x 1"):
+            lines = f"home x ; here x 0 ; on {more} ; fine zero 1 here x 3 ; coarse zero 2 here x 1 ; fine zero 3 here x 127"
+            program, machine = Program.read(f"{lines} ; on fine x 4 ; zero 0 here x 0 ; far x 0"), Machine(1, 4)
+            place = [str(step) for step in program].index("on fine x 4")
+            told = least_preamble(program, machine, place)
+            self.check_least(told, program, machine, place)
+            lengths = [
+                len(fewest(machine, Target(choice.words | Standing(way="rapid"), x=one)).preamble)
+                for choice in choices(program, machine, place) for one in choice.options[0]
+            ]
+            self.assertEqual(min(lengths), len(told.preamble))
 
     def test_many_options(self):
         """Three axes, each with sums of five registers."""

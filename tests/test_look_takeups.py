@@ -314,6 +314,9 @@ class UnservedTest(Checks, unittest.TestCase):
                     self.assertIs(False, shows_unserved(PATH, MACHINE, 2, Target(), with_part(plain, at, value)))
         self.assertFalse(shows_unserved(PATH, MACHINE, 2, target, with_part(told, 1, Standing.read("far fine zero 0"))))
         self.assertFalse(shows_unserved(PATH, MACHINE, 2, target, with_part(told, 1, Standing.read("on coarse zero 0"))))
+        for name in Standing.NAMES:
+            words = Standing(**{name: values_of(name, MACHINE)[0]})
+            self.assertFalse(shows_unserved(PATH, MACHINE, 2, Target(), with_part(plain, 1, words)))
         self.assertTrue(shows_unserved(PATH, MACHINE, 2, target, told) and shows_unserved(PATH, MACHINE, 2, Target(), plain))
 
 
@@ -398,6 +401,24 @@ class RefusedTest(Checks, unittest.TestCase):
                 taken, refused = taken + shown, refused + (not shown)
         self.assertTrue(taken > 5 and refused > 100, (taken, refused))
 
+    def test_each_parting_that_is_needed(self):
+        """Also where a kept register is some number more than what is wanted."""
+        numbers = set()
+        for zeros, seed in ((1, 311), (2, 312)):
+            machine = Machine(1, zeros)
+            for program in random_programs(seed, 35, depth=3, zeros=zeros):
+                for place in range(program.end):
+                    told = take_up(program, machine, place)
+                    for at, row in enumerate(told.rows if told.word == "refused" else ()):
+                        shift = run_shift(program, machine, row.partings[0].run, row.axis)
+                        numbers.update(shift[name].number for name in machine.kept)
+                        for left_out in range(len(row.partings)):
+                            partings = row.partings[:left_out] + row.partings[left_out + 1:]
+                            value = self.with_row(told, at, RefusedRow(row.words, row.axis, partings))
+                            self.assertIs(holds(refused_holds, program, machine, place, value), shows_refused(
+                                program, machine, place, value))
+        self.assertGreater(len(numbers), 5)
+
     def test_partings_that_are_not_needed(self):
         program, machine = Program.read("skip ( here x 0 ) ; on ; x 1 ; far x 0"), Machine(1, 1)
         told = take_up(program, machine, 2)
@@ -420,6 +441,8 @@ class RefusedTest(Checks, unittest.TestCase):
         self.assertTrue(shows_refused(program, MACHINE, 2, RefusedWord("tool", told.other, told.one)))
         for wrong in (True, 1.0, 2, "1", None):
             self.assertFalse(shows_refused(program, MACHINE, 2, RefusedWord("tool", (wrong,) + told.one[1:], told.other)))
+        for run_on in ((2,), (), (2, 3, 3), (3, 2)):
+            self.assertFalse(shows_refused(program, MACHINE, 2, RefusedWord("tool", told.one[:2] + (run_on,), told.other)))
         self.assertFalse(shows_refused(program, MACHINE, 2, RefusedWord("tool", told.one, told.one)))
         self.assertFalse(shows_refused(program, MACHINE, 2, RefusedWord("pace", told.one, told.other)))
 

@@ -217,6 +217,8 @@ class TextsTest(Checks, unittest.TestCase):
                 mixed = [mixed] if at % 2 else inner
             for value in (deep, table, paper, mixed):
                 self.assertIs(told, is_told(value))
+                if told:
+                    self.assertEqual(text_of(value), page_of(value))
         for many, told in ((400, True), (401, False)):
             self.assertIs(told, is_told("a" * many))
             self.assertIs(told, is_told("b" * (many % 2) + " a" * (many // 2) if many % 2 else "b" + " a" * (many // 2 - 1) + "b"))
@@ -293,7 +295,7 @@ class ReaderTest(Checks, unittest.TestCase):
             ("most [ 5 , 6 , 7 ] ]", 8), ("most [ 5 6", 3), ("free [ { } ]", 2), ("free [ [ { x = 1 } ] ]", 3), ("[ { x = free [ 5 ] } , free [ { } ] ]", 12),
             ("unlike [ { } , { } ]", 2), ("Most [ 5 , 6 , 7 ]", 0), ("paper [ 5 ]", 0), ("denial [ 5 ]", 0), ("tape", 1), ("tape 5", 1), ("tape [ 5 ]", 3),
             (f"tape [ {row} , 5 ]", 13), ("tape [ row [ -1 , none , [ ] ] ]", 11), (f"tape [ {row}", 11), (f"tape [ {row} , ]", 12), ("tape [ , ]", 2), ("tape [ row", 3),
-            ("tape [ row [ 0 , [ 'a ] , [ ] ] ]", 13), ("free [ tape [ 5 ] ]", 5), ("want [ 'p , 'p , 0 ]", 7), ("row [ 0 , none ]", 5), ("row", 1),
+            ("tape [ row [ 0 , [ 'a ] , [ ] ] ]", 13), ("free [ tape [ 5 ] ]", 5), ("tape [ { } ]", 2), ("tape [ [ { x = 1 } ] ]", 3), ("want [ 'p , 'p , 0 ]", 7), ("row [ 0 , none ]", 5), ("row", 1),
             ("tape [ row [ 0 , none , [ [ none ] ] ] ]", 14),
         ):
             self.check_word(text, word)
