@@ -69,7 +69,7 @@ def dict_text_within(table, deep):
     if None in texts:
         return None
     pairs = [f"{key} = {text}" for key, text in zip(keys, texts)]
-    return f"{{ {joined_texts(pairs)} }}" if len(pairs) > 0 else "{ }"
+    return " ".join(["{", joined_texts(pairs), "}"]) if len(pairs) > 0 else "{ }"
 
 
 def paper_text_within(paper, deep):
